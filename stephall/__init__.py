@@ -1,0 +1,1 @@
+"""Stephall: an exchange of steppers, in which pulses lead calls."""
