@@ -42,6 +42,15 @@ NAMES_OUT = set(
     "copyright credits delattr dir eval exec exit gc getattr globals hasattr help id importlib license locals "
     "methodcaller os quit setattr super type vars sys format format_map args".split()
 )
+# What may walk a zip, a range and their like that are written within it.
+WALKERS = ("list", "tuple", "dict", "sorted", "sum", "any", "all", "enumerate", "zip", "bytes", "min", "max")
+KEYWORDS = {
+    "sorted": {"key", "reverse"}, "min": {"key", "default"}, "max": {"key", "default"}, "sum": {"start"},
+    "enumerate": {"start"}, "zip": {"strict"},
+}
+# These stand by isinstance, raise, except or as a base, too.
+CLASSES = {name for name in OWN_NAMES if isinstance(getattr(builtins, name), type)}
+CLASSES -= {"range", "enumerate", "zip", "reversed"}
 DUNDERS = {"__init__", "__eq__", "__repr__", "__str__", "__len__"}
 # What Python's own values have and L25 does not list: no own method or value may be called so.
 VALUE_NAMES = {name for kind in (str, int, list, dict, set, bytes) for name in dir(kind)}
@@ -213,6 +222,58 @@ class Language(unittest.TestCase):
         for place, node in self.each(ast.ExceptHandler):
             self.assertIsNotNone(node.type, place)
             self.assertNotIn(ast.unparse(node.type), ("Exception", "TypeError", "()"), place)
+
+    def test_walked_at_once(self):
+        """L23: what is walked but once is walked on the spot."""
+        for place, above, node in self.each_call():
+            name = node.func.id if isinstance(node.func, ast.Name) else node.func.attr
+            if name in ("zip", "enumerate", "reversed", "range", "items", "keys", "values"):
+                if isinstance(above, (ast.For, ast.comprehension)):
+                    self.assertIs(above.iter, node, place)
+                else:
+                    self.assertIsInstance(above, ast.Call, place)
+                    self.assertIn(ast.unparse(above.func), WALKERS, place)
+                    self.assertIs(above.args[0], node, place)
+
+    def test_sets(self):
+        """L24, narrower than told there: sets are asked on the spot and not kept."""
+        for path in sources():
+            for above in nodes(path, ast.AST):
+                for node in ast.iter_child_nodes(above):
+                    made = isinstance(node, ast.Call) and ast.unparse(node.func) in ("set", "frozenset")
+                    if made or isinstance(node, (ast.Set, ast.SetComp)):
+                        place = f"{path.name}:{node.lineno}"
+                        self.assertIsInstance(above, (ast.Call, ast.Compare), place)
+                        if isinstance(above, ast.Call):
+                            self.assertIn(ast.unparse(above.func), ("len", "sorted"), place)
+
+    def test_own_names_are_called(self):
+        """L22: Python's own names are called, not kept; keywords stand where they are told."""
+        for place, above, node in self.each_call():
+            if isinstance(node.func, ast.Name) and node.func.id in OWN_NAMES:
+                words = {word.arg for word in node.keywords}
+                self.assertLessEqual(words, KEYWORDS.get(node.func.id, set()), place)
+        for path in sources():
+            tree = nodes(path, ast.AST)
+            called = [node.func for node in tree if isinstance(node, ast.Call)]
+            for node in tree:
+                if isinstance(node, ast.Name) and node.id in OWN_NAMES - CLASSES:
+                    self.assertIn(node, called, f"{path.name}:{node.lineno}")
+
+    def test_two_underscores(self):
+        """L28: no method with two underscores but the one that makes an object, and it gives back nothing."""
+        for place, node in self.each(ast.FunctionDef):
+            if node.name.startswith("__"):
+                self.assertEqual(node.name, "__init__", place)
+                self.assertEqual([row for row in ast.walk(node) if isinstance(row, ast.Return)], [], place)
+
+    def each_call(self):
+        """Each call, with its place and what it stands in."""
+        for path in sources():
+            for above in nodes(path, ast.AST):
+                for node in ast.iter_child_nodes(above):
+                    if isinstance(node, ast.Call):
+                        yield f"{path.name}:{node.lineno}", above, node
 
 
 if __name__ == "__main__":
