@@ -34,12 +34,20 @@ def load(plan, deeds):
     """The greatest number of seekers held behind a deed, and the first place of it, where there are enough of them."""
     lines = list(plan.lines)
     hall = Hall(Plan(plan.long, lines, len(lines), list(plan.groups)))
+    return most_held(hall, [None if at_seekers(deed) else deed for deed in deeds], AT_SEEKERS)
+
+
+def most_held(hall, deeds, where):
+    """The greatest number of switches held there behind a deed, and the first place of it.
+
+    None stands for a deed that is left out. No switch there is stuck.
+    """
     most = (0, None)
     for place, deed in enumerate(deeds):
-        if at_seekers(deed):
-            continue
-        answer_of(hall, deed)
-        many = len(lines) - hall.paper(AT_SEEKERS).count("free")
+        if deed is not None:
+            answer_of(hall, deed)
+        paper = hall.paper(where)
+        many = len(paper) - paper.count("free")
         if many > most[0]:
             most = (many, place)
     return most

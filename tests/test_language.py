@@ -144,6 +144,24 @@ class Language(unittest.TestCase):
             for row in node.body:
                 self.assertIsInstance(row, (ast.FunctionDef, ast.Expr, ast.Pass), place)
 
+    def test_tables(self):
+        """L3, L15: a table of a file's top holds plain values, tuples and functions from above, and is only read."""
+        for path in sources():
+            above, tables = set(), set()
+            for row in ast.parse(path.read_text()).body:
+                if isinstance(row, ast.FunctionDef):
+                    above.add(row.name)
+                if isinstance(row, ast.Assign):
+                    if isinstance(row.value, (ast.Dict, ast.List)):
+                        tables.add(row.targets[0].id)
+                    for node in list(ast.walk(row.value))[1:]:
+                        self.assertNotIsInstance(node, (ast.Dict, ast.List, ast.Call), f"{path.name}:{row.lineno}")
+                        if isinstance(node, ast.Name):
+                            self.assertIn(node.id, above, f"{path.name}:{row.lineno}")
+            for node in nodes(path, ast.Subscript):
+                if isinstance(node.value, ast.Name) and node.value.id in tables:
+                    self.assertIsInstance(node.ctx, ast.Load, f"{path.name}:{node.lineno}")
+
     def test_imports(self):
         """L2, L16: from the very file that defines the name, and no two files from one another."""
         drawn = {}

@@ -2,13 +2,13 @@ import copy
 import random
 import unittest
 
-from stephall.errors import HallError, NoLine, NoSwitch, NotSo
+from stephall.errors import NoLine, NoSwitch, NotSo
 from stephall.figures import dialled
 from stephall.halls import Hall
 from stephall.plans import Plan
 from stephall.reports import done_again, judged, load, need
 from tests.helper import (
-    SCENES, HallCase, answers_of, any_deeds, any_plan, asked, at_seekers, calls, scene, small_plan,
+    SCENES, HallCase, answer_or_kind, answers_of, any_deeds, any_rows, asked, at_seekers, calls, scene, small_plan,
 )
 
 
@@ -17,21 +17,6 @@ def report_of(plan, deeds):
     hall = Hall(plan)
     answers = [answer_or_kind(hall, deed) for deed in deeds]
     return [(deed, answer if isinstance(answer, list) else None) for deed, answer in zip(deeds, answers)]
-
-
-def answer_or_kind(hall, deed):
-    """What a hall answers to a deed, or the kind of its refusal."""
-    try:
-        return hall.do(deed)
-    except HallError as error:
-        return type(error)
-
-
-def any_rows(rows, many):
-    for seed in range(rows):
-        chance = random.Random(1000 + seed)
-        plan = any_plan(chance)
-        yield plan, any_deeds(chance, plan, many)
 
 
 def with_seekers(plan, seekers):
